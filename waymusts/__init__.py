@@ -1,0 +1,1 @@
+"""Waymusts: places that no way leaves out, shown by two orders."""
