@@ -14,6 +14,19 @@ LISTED = {
         "shared_must": "net gate places",
         "must_lanes": "net gate place",
     },
+    "papers": {
+        "lie_of": "net gate paper",
+        "holds": "net gate paper",
+        "musts_by": "paper place",
+        "two_ways": "net gate paper place",
+    },
+    "making": {"paper_of": "net gate"},
+    "families": {"family": "net gate place", "fits": "family order"},
+    "counted": {
+        "papers_many": "net gate",
+        "paper_numbered": "net gate number",
+        "number_of": "net gate paper",
+    },
 }
 
 
