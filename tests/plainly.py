@@ -100,6 +100,29 @@ def wheel_lanes(chance, many):
     return lanes | {(0, place) for place in chance.sample(rim, min(len(rim), chance.randint(1, 4)))}
 
 
+def ear_lanes(chance, many):
+    """A net that leads round: ever again some new places in a row, from one that is there to one that is there."""
+    lanes = set()
+    here = 1
+    while here < many:
+        ear = list(range(here, min(many, here + chance.randint(1, 5))))
+        row = [chance.randrange(here)] + ear + [chance.randrange(here)]
+        lanes |= set(zip(row, row[1:]))
+        here += len(ear)
+    return lanes
+
+
+def round_nets(seed, how_many, fewest, most):
+    """Nets that lead round, thin ones and ones with some lanes besides, the places' numbers mixed."""
+    chance = random.Random(seed)
+    for turn in range(how_many):
+        many = chance.randint(fewest, most)
+        lanes = ear_lanes(chance, many)
+        for more in range(chance.choice([0, 0, 1, 3, many]) if many > 1 else 0):
+            lanes.add(tuple(chance.sample(range(many), 2)))
+        yield mixed(chance, many, lanes)
+
+
 SHAPES = (tree_lanes, row_lanes, ladder_lanes, wheel_lanes)
 
 
@@ -118,6 +141,13 @@ def plain_musts(net, gate):
     whole = reach(net, gate)
     without = {must: reach(net, gate, (must,)) for must in whole}
     return {place: {must for must in whole if place not in without[must]} for place in whole}
+
+
+def plain_holders(net, gate):
+    """The holders by the document's words: of the musts but the place itself the one with all others as musts."""
+    told = plain_musts(net, gate)
+    last = {place: [must for must in told[place] - {place} if told[must] == told[place] - {place}] for place in told}
+    return tuple((last[place] + [gate])[0] if place in told else None for place in range(net[0]))
 
 
 def stands_ahead(order, one, other):

@@ -27,6 +27,34 @@ LISTED = {
         "paper_numbered": "net gate number",
         "number_of": "net gate paper",
     },
+    "posts": {
+        "musts_back": "net gate place",
+        "parted_by": "net place",
+        "leads_round": "net",
+        "posts": "net",
+    },
+    "parts": {"only": "net places", "part_of": "paper place", "exchanged": "paper part"},
+    "stretches": {"stretches": "net gate place"},
+}
+
+CLASSES = {
+    "keeper": {
+        "Keeper": {
+            "__init__": "net gate",
+            "put": "one other",
+            "drop": "one other",
+            "close": "place",
+            "reopen": "place",
+            "back": "",
+            "again": "",
+            "net": "",
+            "closed": "",
+            "gate": "",
+            "paper": "",
+            "holders": "",
+            "made": "",
+        },
+    },
 }
 
 
@@ -37,6 +65,14 @@ class Interface(unittest.TestCase):
                 with self.subTest(f"{module}.{name}"):
                     function = getattr(import_module(f"waymusts.{module}"), name)
                     self.assertEqual(list(inspect.signature(function).parameters), arguments.split())
+
+    def test_classes_and_their_methods(self):
+        for module, classes in CLASSES.items():
+            for kind, methods in classes.items():
+                for name, arguments in methods.items():
+                    with self.subTest(f"{module}.{kind}.{name}"):
+                        method = getattr(getattr(import_module(f"waymusts.{module}"), kind), name)
+                        self.assertEqual(list(inspect.signature(method).parameters)[1:], arguments.split())
 
 
 if __name__ == "__main__":

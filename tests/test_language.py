@@ -125,6 +125,39 @@ class Language(unittest.TestCase):
             if isinstance(node, ast.Call) and isinstance(node.func, ast.Attribute):
                 self.assertTrue(node.func.attr in METHODS or node.func.attr in self.own, where)
 
+    def test_no_name_is_a_method_and_an_attribute(self):
+        methods = {node.name for where, kind in self.each_node() if isinstance(kind, ast.ClassDef)
+                   for node in kind.body if isinstance(node, ast.FunctionDef)}
+        assigned = {node.attr for where, node in self.each_node()
+                    if isinstance(node, ast.Attribute) and isinstance(node.ctx, ast.Store)}
+        self.assertEqual(methods & assigned, set())
+        for where, node in self.each_node():
+            if isinstance(node, ast.Attribute):
+                self.assertIn(node.attr, methods | assigned | set(METHODS), where)
+
+    def test_no_two_files_import_from_each_other(self):
+        beyond = {name: {node.module.removeprefix("waymusts.") + ".py" for node in ast.walk(tree)
+                         if isinstance(node, ast.ImportFrom)} for name, tree in self.trees.items()}
+        while beyond:
+            free = {name for name, others in beyond.items() if not others & set(beyond)}
+            self.assertTrue(free, beyond)
+            beyond = {name: others for name, others in beyond.items() if name not in free}
+
+    def test_names_of_a_module_are_bound_once(self):
+        for name, tree in self.trees.items():
+            bound = [alias.name for node in tree.body if isinstance(node, ast.ImportFrom) for alias in node.names]
+            bound += [node.name for node in tree.body if isinstance(node, (ast.FunctionDef, ast.ClassDef))]
+            bound += [target.id for node in tree.body if isinstance(node, ast.Assign) for target in node.targets]
+            self.assertEqual(sorted(bound), sorted(set(bound)), name)
+
+    def test_one_shot_values_are_iterated_on_the_spot(self):
+        for name, tree in self.trees.items():
+            for node in ast.walk(tree):
+                if isinstance(node, (ast.Assign, ast.Return)):
+                    call = node.value
+                    if isinstance(call, ast.Call) and isinstance(call.func, ast.Name):
+                        self.assertNotIn(call.func.id, ("zip", "enumerate", "reversed", "range"), name)
+
 
 if __name__ == "__main__":
     unittest.main()

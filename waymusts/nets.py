@@ -1,5 +1,7 @@
 """Nets: places, and one-way lanes between them."""
 
+from waymusts.errors import NoLane
+
 MOST_PLACES = 24
 MOST_LANES = 120
 
@@ -44,7 +46,17 @@ def turned(net):
     return (many, tuple(sorted([(other, one) for one, other in lanes])))
 
 
+def with_lane(net, lane):
+    """The net with one lane more."""
+    many, lanes = net
+    if not is_lane(many, lane) or lane in lanes or len(lanes) >= MOST_LANES:
+        raise NoLane(f"the lane {lane} can't be put in")
+    return (many, tuple(sorted(lanes + (lane,))))
+
+
 def without_lane(net, lane):
     """The net without one of its lanes."""
     many, lanes = net
+    if lane not in lanes:
+        raise NoLane(f"there is no lane {lane}")
     return (many, tuple([kept for kept in lanes if kept != lane]))
