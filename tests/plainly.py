@@ -63,6 +63,11 @@ def is_told(thing):
     return thing is None or type(thing) in (int, str, bool)
 
 
+def has_truth(thing):
+    """Whether a thing is a truth or has one in it."""
+    return any(has_truth(part) for part in thing) if type(thing) is tuple else type(thing) is bool
+
+
 def mixed(chance, many, lanes):
     """A net of these lanes, the places' numbers mixed."""
     names = chance.sample(range(many), many)

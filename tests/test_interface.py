@@ -1,4 +1,4 @@
-"""The names and arguments that the document's interface lists, of the modules that there are."""
+"""The names and arguments that the document's interface lists."""
 
 import inspect
 import unittest
@@ -35,6 +35,20 @@ LISTED = {
     },
     "parts": {"only": "net places", "part_of": "paper place", "exchanged": "paper part"},
     "stretches": {"stretches": "net gate place"},
+    "apart": {
+        "ways_apart": "net one other",
+        "blockers": "net one other",
+        "lanes_apart": "net one other",
+        "lane_blockers": "net one other",
+    },
+    "texts": {
+        "show_net": "net",
+        "show_places": "places",
+        "show_paper": "paper",
+        "read_net": "text",
+        "read_places": "text",
+        "read_paper": "text",
+    },
 }
 
 CLASSES = {
@@ -55,6 +69,10 @@ CLASSES = {
             "made": "",
         },
     },
+    "looker": {
+        "Looker": {"__init__": "gate paper", "lane": "one other", "drop": "one other", "lanes": "", "holds": ""},
+    },
+    "desk": {"Desk": {"__init__": "", "say": "row"}},
 }
 
 

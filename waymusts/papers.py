@@ -36,12 +36,22 @@ def unled_lie(net, gate, paper):
     return None
 
 
+def all_above(paper):
+    """For each place of a paper the places above it."""
+    return {place: places_above(paper, place) for place in paper[0]}
+
+
+def leaves_out(above, one, other):
+    """Whether by a lane from one place to another some place above the other can be left out."""
+    return not all([must == one or must in above[one] for must in above[other]])
+
+
 def lane_lie(net, paper):
     """The first lie of a lane by which a place above its end can be left out, or None."""
-    above = {place: places_above(paper, place) for place in paper[0]}
+    above = all_above(paper)
     for one, other in net[1]:
         # Nothing is above the gate, which stands first, so lanes to it need no look of their own.
-        if one in above and not all([must == one or must in above[one] for must in above[other]]):
+        if one in above and leaves_out(above, one, other):
             return ("lane", one, other)
     return None
 
