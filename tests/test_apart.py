@@ -4,6 +4,7 @@ from itertools import combinations
 
 from plainly import all_pairs, every_net, is_told, net_of, reach, round_nets, shaped_nets, some_nets
 from waymusts.apart import blockers, lane_blockers, lanes_apart, ways_apart
+from waymusts.nets import turned
 from waymusts.ways import is_way
 
 LINE = (24, tuple((place, place + 1) for place in range(23)))
@@ -11,6 +12,19 @@ WIDE = net_of(24, [(0, place) for place in range(1, 23)] + [(place, 23) for plac
 THICK = net_of(11, all_pairs(11))
 # Two rows, 0 1 2 3 and 0 4 5 3, with a lane from 1 to 5 that leads a first, shortest way across both.
 CROSSED = net_of(6, [(0, 1), (1, 2), (2, 3), (0, 4), (4, 5), (5, 3), (1, 5)])
+
+# Nets, with two places each, in which the lanes that the ways use may lead round, if ways are sought shortest first.
+LEADING_ROUND = (
+    ((10, ((0, 8), (1, 6), (2, 5), (3, 2), (4, 3), (4, 9), (5, 8), (7, 1), (8, 6), (8, 9), (9, 0), (9, 7))), 4, 6),
+    ((11, ((0, 1), (0, 2), (1, 6), (2, 5), (4, 0), (4, 9), (5, 0), (5, 3), (6, 7), (7, 3), (8, 5), (9, 10), (10, 8))),
+     4, 3),
+    ((12, ((0, 1), (0, 6), (1, 5), (1, 7), (3, 7), (4, 0), (5, 9), (6, 8), (7, 0), (7, 2), (8, 2), (9, 2), (10, 4),
+           (11, 1), (11, 3), (11, 10))), 11, 2),
+    ((11, ((1, 9), (2, 6), (2, 8), (3, 2), (4, 0), (5, 10), (6, 10), (7, 1), (7, 2), (7, 8), (8, 0), (8, 4), (9, 5),
+           (10, 0), (10, 3))), 7, 0),
+    ((10, ((0, 2), (0, 9), (2, 1), (2, 6), (3, 1), (4, 5), (4, 7), (4, 8), (5, 0), (6, 1), (6, 8), (7, 0), (8, 2),
+           (8, 3), (9, 6))), 4, 1),
+)
 
 
 def steps(way):
@@ -183,6 +197,16 @@ class LargerNets(Checked):
                 lanes |= {(tail, head) for tail in here for head in chance.sample(there, 2)}
             lanes |= {tuple(chance.sample(range(1, 21), 2)) for more in range(12)}
             self.check(net_of(22, lanes), 0, 21)
+
+    def test_used_lanes_that_lead_round(self):
+        chance = random.Random(138)
+        for net, one, other in LEADING_ROUND:
+            self.check(net, one, other)
+            self.check(turned(net), other, one)
+            for turn in range(20):
+                names = chance.sample(range(net[0]), net[0])
+                renamed = net_of(net[0], [(names[tail], names[head]) for tail, head in net[1]])
+                self.check(renamed, names[one], names[other])
 
     def test_somewhat_beyond_the_limits(self):
         net = net_of(30, all_pairs(30)[:400])

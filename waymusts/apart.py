@@ -54,20 +54,18 @@ def lane_blockers(net, one, other):
     return tuple([lane for lane in net[1] if lane[0] in near and lane[1] not in near])
 
 
-def doubled(net, one, other):
-    """A net with an entry and an exit for each place, the exit numbered as much higher as there are places.
-
-    But for two places a lane leads from the entry to the exit; as it is one lane, one way at most has the place.
-    """
+def doubled(net):
+    """A net with two numbers for each place: its own, where lanes lead in, and a higher one, where they lead out."""
     many, lanes = net
-    through = [(place, place + many) for place in range(many) if place not in (one, other)]
+    # One lane leads through each place, so of ways apart by lanes at most one has it on its way.
+    through = [(place, place + many) for place in range(many)]
     return (2 * many, tuple(sorted(through + [(tail + many, head) for tail, head in lanes])))
 
 
 def ways_apart(net, one, other):
     """As many ways from one place to another as can be, no two with another place in common."""
     many = net[0]
-    ways = lanes_apart(doubled(net, one, other), one + many, other)
+    ways = lanes_apart(doubled(net), one + many, other)
     return tuple([(one,) + tuple([place for place in way if place < many]) for way in ways])
 
 
@@ -76,6 +74,6 @@ def blockers(net, one, other):
     many, lanes = net
     if (one, other) in lanes:
         return None
-    blocking = lane_blockers(doubled(net, one, other), one + many, other)
+    blocking = lane_blockers(doubled(net), one + many, other)
     # A place blocks whatever the lane to it does; a lane to the other place itself is blocked by where it begins.
     return tuple(sorted([(tail if head == other else head) % many for tail, head in blocking]))
